@@ -62,7 +62,6 @@ func Unwrap(b []byte, at, most int) (out []byte, next int, e api.Errno) {
 	if size > most {
 		return nil, 0, api.ErrMany
 	}
-	// What is left is asked, not where it would end: a sum could be beyond an int.
 	if size > len(b)-first {
 		return nil, 0, api.ErrBad
 	}
