@@ -7,6 +7,7 @@ import (
 	"slices"
 
 	"leverframe/api"
+	"leverframe/sample"
 	"leverframe/track"
 )
 
@@ -16,22 +17,16 @@ var far = []int{math.MinInt, math.MinInt + 1, -1 << 32, -100, -3, -2, -1, 1 << 3
 // near are numbers of which most are something's in the plans here, or just beyond a limit.
 var near = []int{0, 1, 2, 3, 4, 5, 6, 7, 8, 9, 10, 11, 12, 20, 21, 30, 31, 84, 90, 98, 99, 100, 1<<31 - 2, 1<<31 - 1}
 
-// bare answers a section without a point, whose ends lead there.
-func bare(id int, a, b api.Join) api.Section {
-	return api.Section{Id: id, Ends: []api.Join{a, b}}
-}
-
-// pointed answers a section with a point, whose ends lead there.
-func pointed(id, point int, toe, normal, reverse api.Join) api.Section {
-	return api.Section{Id: id, Point: point, Ends: []api.Join{toe, normal, reverse}}
-}
-
-// to answers what leads to an end.
-func to(id, end int) api.Join {
-	return api.Join{To: id, End: end}
-}
-
 var nothing = api.Join{}
+
+// What the tables are told by, and what looks into plans.
+var (
+	bare    = sample.Bare
+	pointed = sample.Pointed
+	to      = sample.To
+	endOf   = sample.End
+	numbers = sample.Numbers
+)
 
 // example answers the chapter's plan.
 func example() api.Plan {
@@ -369,16 +364,6 @@ func some() map[string]api.Plan {
 	return out
 }
 
-// endOf answers where what that end in p leads to stands; nil, if there is no such end.
-func endOf(p api.Plan, j api.Join) *api.Join {
-	for i, s := range p.Sections {
-		if s.Id == j.To && j.End >= 0 && j.End < len(s.Ends) {
-			return &p.Sections[i].Ends[j.End]
-		}
-	}
-	return nil
-}
-
 // mayBe tells, by the words, whether p may be.
 func mayBe(p api.Plan) bool {
 	if p.Version < 1 || p.Version > 2147483647 || p.Parent < 0 || p.Parent > p.Version-1 || track.Check(p.Sections) != api.OK {
@@ -467,43 +452,6 @@ func twin(p api.Plan) api.Plan {
 // text answers all that a structure has: two of one kind have one text if, and only if, they are the same.
 func text(x any) string {
 	return fmt.Sprint(x)
-}
-
-// numbers answers where all numbers of p stand.
-func numbers(p *api.Plan) []*int {
-	out := []*int{&p.Version, &p.Parent}
-	for i := range p.Sections {
-		s := &p.Sections[i]
-		out = append(out, &s.Id, &s.Point)
-		for k := range s.Ends {
-			out = append(out, &s.Ends[k].To, &s.Ends[k].End)
-		}
-	}
-	for i := range p.Points {
-		out = append(out, &p.Points[i].Id, &p.Points[i].Section)
-	}
-	for i := range p.Signals {
-		out = append(out, &p.Signals[i].Id, &p.Signals[i].Section, &p.Signals[i].End)
-	}
-	for i := range p.Routes {
-		out = append(out, routeNumbers(&p.Routes[i])...)
-	}
-	return out
-}
-
-// routeNumbers answers where all numbers of r stand.
-func routeNumbers(r *api.Route) []*int {
-	out := []*int{&r.Id, &r.Entry, &r.Exit, &r.Timer}
-	for i := range r.Path {
-		out = append(out, &r.Path[i])
-	}
-	for i := range r.Over {
-		out = append(out, &r.Over[i])
-	}
-	for i := range r.Flanks {
-		out = append(out, &r.Flanks[i].Point, &r.Flanks[i].Lie)
-	}
-	return out
 }
 
 // edits answers what comes of list without one element, with one twice, with two that change places, with none, and with more behind and ahead of it.

@@ -8,6 +8,7 @@ import (
 	"slices"
 
 	"leverframe/api"
+	"leverframe/sample"
 )
 
 // far are numbers that are no route's.
@@ -15,20 +16,17 @@ var far = []int{math.MinInt, math.MinInt + 1, -1 << 32, -9, -1, 0, 100, 256 + 1,
 
 var nothing = api.Join{}
 
-// bare answers a section without a point, whose ends lead there.
-func bare(id int, a, b api.Join) api.Section {
-	return api.Section{Id: id, Ends: []api.Join{a, b}}
-}
-
-// pointed answers a section with a point, whose ends lead there.
-func pointed(id, point int, toe, normal, reverse api.Join) api.Section {
-	return api.Section{Id: id, Point: point, Ends: []api.Join{toe, normal, reverse}}
-}
-
-// to answers what leads to an end, or an out.
-func to(id, end int) api.Join {
-	return api.Join{To: id, End: end}
-}
+// What the tables are told by.
+var (
+	bare    = sample.Bare
+	pointed = sample.Pointed
+	to      = sample.To
+	yard    = sample.Yard
+	moved   = sample.Moved
+	having  = sample.Having
+	endOf   = sample.End
+	join    = sample.Tie
+)
 
 // ask answers what is asked of a point.
 func ask(point, lie, at int) api.Ask {
@@ -46,23 +44,6 @@ func example() api.Plan {
 	}
 }
 
-// yard answers a plan without routes: two tracks, 3 and 4, between the legs of 2 and 5; behind that 8 and 9, joined leg by leg; then 10, of which a leg leads to nothing, and 12, of which both do.
-func yard() api.Plan {
-	return api.Plan{
-		Version: 3, Parent: 1,
-		Sections: []api.Section{
-			bare(1, nothing, to(2, 0)), pointed(2, 30, to(1, 1), to(3, 0), to(4, 0)), bare(3, to(2, 1), to(5, 1)), bare(4, to(2, 2), to(5, 2)),
-			pointed(5, 20, to(6, 0), to(3, 1), to(4, 1)), bare(6, to(5, 0), to(7, 0)), bare(7, to(6, 1), to(8, 0)), pointed(8, 10, to(7, 1), to(9, 1), to(9, 2)),
-			pointed(9, 40, to(10, 0), to(8, 1), to(8, 2)), pointed(10, 50, to(9, 0), nothing, to(11, 0)), bare(11, to(10, 2), to(12, 0)), pointed(12, 60, to(11, 1), nothing, nothing),
-		},
-		Points: []api.Point{{Id: 10, Section: 8}, {Id: 20, Section: 5}, {Id: 30, Section: 2}, {Id: 40, Section: 9}, {Id: 50, Section: 10}, {Id: 60, Section: 12}},
-		Signals: []api.Signal{
-			{Id: 1, Section: 1, End: 1}, {Id: 3, Section: 3, End: 1}, {Id: 4, Section: 4, End: 1}, {Id: 5, Section: 6, End: 0}, {Id: 6, Section: 6, End: 1},
-			{Id: 7, Section: 7, End: 1}, {Id: 8, Section: 8, End: 0}, {Id: 9, Section: 7, End: 0}, {Id: 10, Section: 10, End: 2}, {Id: 12, Section: 12, End: 2},
-		},
-	}
-}
-
 // fork answers a plan without routes: both legs of 2 lead into 3, the first one to a leg of it, the other one to its toe; a leg of 3 leads on to 4, and the legs of 5 to each other.
 func fork() api.Plan {
 	return api.Plan{
@@ -75,28 +56,9 @@ func fork() api.Plan {
 	}
 }
 
-// moved answers p whose signals of those numbers stand elsewhere.
-func moved(p api.Plan, at map[int]api.Join) api.Plan {
-	for i, s := range p.Signals {
-		if j, ok := at[s.Id]; ok {
-			p.Signals[i].Section, p.Signals[i].End = j.To, j.End
-		}
-	}
-	return p
-}
-
 // route answers a route of number 1.
 func route(entry, exit int, path, over []int, flanks ...api.Flank) api.Route {
 	return api.Route{Id: 1, Entry: entry, Exit: exit, Path: path, Over: over, Flanks: flanks, Timer: 1}
-}
-
-// having answers p with those routes, numbered from 1 on.
-func having(p api.Plan, routes ...api.Route) api.Plan {
-	p.Routes = slices.Clone(routes)
-	for i := range p.Routes {
-		p.Routes[i].Id = i + 1
-	}
-	return p
 }
 
 // right is a route of a plan whose sections hang together, and what it comes to.
@@ -248,151 +210,9 @@ func some() map[string]api.Plan {
 	}
 	r := rand.New(rand.NewSource(9))
 	for i := range 100 {
-		out[fmt.Sprint("grown ", i)] = grown(r)
+		out[fmt.Sprint("grown ", i)] = sample.Grown(r.Intn)
 	}
 	return out
-}
-
-// grown answers a plan that may be, made by chance: most ends are joined, and most routes go along.
-func grown(r *rand.Rand) api.Plan {
-	p := api.Plan{Version: 1 + r.Intn(9)}
-	points := some99(r, r.Intn(7))
-	var open []api.Join
-	for _, id := range sorted(some99(r, 3+r.Intn(14))) {
-		s := bare(id, nothing, nothing)
-		if len(points) > 0 && r.Intn(2) == 0 {
-			s = pointed(id, points[0], nothing, nothing, nothing)
-			p.Points = append(p.Points, api.Point{Id: points[0], Section: id})
-			points = points[1:]
-		}
-		for end := range s.Ends {
-			open = append(open, to(id, end))
-		}
-		p.Sections = append(p.Sections, s)
-	}
-	slices.SortFunc(p.Points, func(a, b api.Point) int { return a.Id - b.Id })
-	r.Shuffle(len(open), func(i, k int) { open[i], open[k] = open[k], open[i] })
-	for i := range (len(open) - r.Intn(4)) / 2 {
-		join(p, open[2*i], open[2*i+1])
-	}
-	r.Shuffle(len(open), func(i, k int) { open[i], open[k] = open[k], open[i] })
-	for i, id := range sorted(some99(r, 1+r.Intn(min(len(open), 10)))) {
-		p.Signals = append(p.Signals, api.Signal{Id: id, Section: open[i].To, End: open[i].End})
-	}
-	ids := sorted(some99(r, 1+r.Intn(16)))
-	for range 200 {
-		if x := roamed(r, p); len(p.Routes) < len(ids) && len(x.Path) > 0 {
-			x.Id = ids[len(p.Routes)]
-			p.Routes = append(p.Routes, x)
-		}
-	}
-	return p
-}
-
-// join joins two ends of p.
-func join(p api.Plan, a, b api.Join) {
-	*endOf(p, a), *endOf(p, b) = b, a
-}
-
-// endOf answers where what that end in p leads to stands; nil, if there is no such end.
-func endOf(p api.Plan, j api.Join) *api.Join {
-	for i, s := range p.Sections {
-		if s.Id == j.To && j.End >= 0 && j.End < len(s.Ends) {
-			return &p.Sections[i].Ends[j.End]
-		}
-	}
-	return nil
-}
-
-// some99 answers n numbers from 1 to 99, all unlike.
-func some99(r *rand.Rand, n int) []int {
-	out := r.Perm(99)[:n]
-	for i := range out {
-		out[i]++
-	}
-	return out
-}
-
-// sorted answers list, sorted.
-func sorted(list []int) []int {
-	slices.Sort(list)
-	return list
-}
-
-// roamed answers a route that may be in p, unless its path is empty; it goes from a signal on by chance, and now and then it is changed by chance.
-func roamed(r *rand.Rand, p api.Plan) api.Route {
-	entry := p.Signals[r.Intn(len(p.Signals))]
-	x := api.Route{Entry: entry.Id, Timer: 1 + r.Intn(9)}
-	seen := []int{entry.Section, 0}
-	for at := *endOf(p, to(entry.Section, entry.End)); !slices.Contains(seen, at.To); {
-		seen = append(seen, at.To)
-		if x.Exit == 0 {
-			x.Path = append(x.Path, at.To)
-		} else {
-			x.Over = append(x.Over, at.To)
-		}
-		here := to(at.To, onward(r, p, at))
-		at = *endOf(p, here)
-		if i := slices.Index(p.Signals, signalAt(p, here)); i >= 0 && x.Exit == 0 && p.Signals[i] != entry && r.Intn(3) > 0 {
-			x.Exit = p.Signals[i].Id
-		}
-		if len(x.Over) == 2 || len(x.Path) == 6 && x.Exit == 0 || r.Intn(8) == 0 {
-			break
-		}
-	}
-	for _, f := range p.Points {
-		if r.Intn(4) == 0 && len(x.Flanks) < 3 {
-			x.Flanks = append(x.Flanks, api.Flank{Point: f.Id, Lie: 1 + r.Intn(2)})
-		}
-	}
-	if len(x.Path) > 0 && r.Intn(4) == 0 {
-		bend(r, p, &x)
-	}
-	return x
-}
-
-// onward answers an end to which there is a way from the one by which one comes in.
-func onward(r *rand.Rand, p api.Plan, at api.Join) int {
-	if endOf(p, to(at.To, 2)) == nil {
-		return 1 - at.End
-	}
-	if at.End == 0 {
-		return 1 + r.Intn(2)
-	}
-	return 0
-}
-
-// signalAt answers the signal of p at that end; none, if there is none.
-func signalAt(p api.Plan, at api.Join) api.Signal {
-	for _, s := range p.Signals {
-		if s.Section == at.To && s.End == at.End {
-			return s
-		}
-	}
-	return api.Signal{}
-}
-
-// bend changes one thing of x, which still may be in p.
-func bend(r *rand.Rand, p api.Plan, x *api.Route) {
-	entry := p.Signals[slices.IndexFunc(p.Signals, func(s api.Signal) bool { return s.Id == x.Entry })]
-	other, section := p.Signals[r.Intn(len(p.Signals))].Id, p.Sections[r.Intn(len(p.Sections))].Id
-	i, k := r.Intn(len(x.Path)), r.Intn(len(x.Path))
-	switch r.Intn(5) {
-	case 0:
-		x.Path[i], x.Path[k] = x.Path[k], x.Path[i]
-	case 1:
-		if !slices.Contains(slices.Concat(x.Path, x.Over, []int{entry.Section}), section) {
-			x.Path[i] = section
-		}
-	case 2:
-		if other != x.Entry {
-			x.Exit = other
-		}
-	case 3:
-		x.Exit, x.Over = 0, nil
-	case 4:
-		slices.Reverse(x.Over)
-	}
 }
 
 // comes tells, by the words, what r comes to in p, and its outs, and whether its sections hang together.

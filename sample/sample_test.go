@@ -1,0 +1,70 @@
+package sample_test
+
+import (
+	"math/rand"
+	"testing"
+
+	"leverframe/api"
+	"leverframe/plan"
+	"leverframe/sample"
+)
+
+// The plans that are told may be.
+func TestTold(t *testing.T) {
+	for i, p := range []api.Plan{sample.Station(), sample.Yard(), sample.Having(sample.Station(), sample.Station().Routes[2], sample.Station().Routes[0]), sample.Moved(sample.Station(), map[int]api.Join{1: sample.To(1, 0)})} {
+		if e := plan.Check(p); e != api.OK {
+			t.Errorf("plan %d may not be: %d", i, int(e))
+		}
+	}
+}
+
+// The plans that are made by chance may be, and many of them have routes, points and overlaps.
+func TestGrown(t *testing.T) {
+	r := rand.New(rand.NewSource(1))
+	routes, points, overlaps := 0, 0, 0
+	for range 300 {
+		p := sample.Grown(r.Intn)
+		if e := plan.Check(p); e != api.OK {
+			t.Errorf("a plan that may not be: %d: %v", int(e), p)
+		}
+		routes, points = routes+len(p.Routes), points+len(p.Points)
+		for _, x := range p.Routes {
+			overlaps += len(x.Over)
+		}
+	}
+	if routes < 1000 || points < 500 || overlaps < 300 {
+		t.Errorf("but %d routes, %d points, %d sections of overlaps", routes, points, overlaps)
+	}
+}
+
+// A plan with spare room is the same one; what stands there is told by Whole.
+func TestSpare(t *testing.T) {
+	p := sample.Station()
+	q := sample.Spare(p)
+	if !plan.Same(p, q) || plan.Same(sample.Whole(q), p) {
+		t.Errorf("%v, %v", q, sample.Whole(q))
+	}
+	was := sample.Whole(q)
+	q.Routes[0].Over[:2][1]++
+	if plan.Same(sample.Whole(q), was) {
+		t.Errorf("a number in the spare room was changed, and is not told")
+	}
+}
+
+// Each number of a plan is told, once: to change it is to have another plan.
+func TestNumbers(t *testing.T) {
+	p := sample.Station()
+	p.Routes[0].Flanks = []api.Flank{{Point: 5, Lie: 1}}
+	was := plan.Twin(p)
+	list := sample.Numbers(&p)
+	for i, at := range list {
+		*at++
+		if plan.Same(p, was) {
+			t.Errorf("number %d is none of the plan", i)
+		}
+		*at--
+	}
+	if want := 2 + 6*6 + 2*2 + 2*2 + 4*3 + 3*4 + 3 + 2 + 4 + 2; len(list) != want || !plan.Same(p, was) {
+		t.Errorf("%d numbers; want %d", len(list), want)
+	}
+}
