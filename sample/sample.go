@@ -141,6 +141,18 @@ func Numbers(p *api.Plan) []*int {
 	return out
 }
 
+// Changed calls each while one number of p is another one: each number in turn, by its place, made each of to. Then p is as it was.
+func Changed(p *api.Plan, to []int, each func(place int)) {
+	for i, at := range Numbers(p) {
+		was := *at
+		for _, n := range to {
+			*at = n
+			each(i)
+		}
+		*at = was
+	}
+}
+
 // roomy answers list in new memory, with odd behind it.
 func roomy[T any](list []T, odd T) []T {
 	out := append(slices.Clip(slices.Clone(list)), odd)

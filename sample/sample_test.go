@@ -68,3 +68,28 @@ func TestNumbers(t *testing.T) {
 		t.Errorf("%d numbers; want %d", len(list), want)
 	}
 }
+
+// A plan is changed in one number at a time, and is then as it was.
+func TestChanged(t *testing.T) {
+	p := sample.Station()
+	was := plan.Twin(p)
+	calls := 0
+	sample.Changed(&p, []int{-7, 1001}, func(place int) {
+		unlike := 0
+		for i, at := range sample.Numbers(&p) {
+			if *at != *sample.Numbers(&was)[i] {
+				unlike++
+				if i != place || *at != []int{-7, 1001}[calls%2] {
+					t.Errorf("call %d: number %d is %d", calls, i, *at)
+				}
+			}
+		}
+		if unlike != 1 {
+			t.Errorf("call %d: %d numbers are changed", calls, unlike)
+		}
+		calls++
+	})
+	if calls != 2*len(sample.Numbers(&p)) || !plan.Same(p, was) {
+		t.Errorf("%d calls; then it is %v", calls, p)
+	}
+}

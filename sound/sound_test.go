@@ -198,14 +198,9 @@ func TestChanged(t *testing.T) {
 	}
 	for name, x := range sounds() {
 		p := plan.Twin(x.has())
-		for i, at := range sample.Numbers(&p) {
-			was := *at
-			for _, n := range []int{math.MinInt, -1, 0, 1, 2, 3, 5, 7, 8, 9, 10, 12, 20, 30, math.MaxInt} {
-				*at = n
-				each(fmt.Sprint(name, ", number ", i), p)
-			}
-			*at = was
-		}
+		sample.Changed(&p, []int{math.MinInt, -1, 0, 1, 2, 3, 5, 7, 8, 9, 10, 12, 20, 30, math.MaxInt}, func(place int) {
+			each(fmt.Sprint(name, ", number ", place), p)
+		})
 		for _, s := range p.Sections {
 			for end := range s.Ends {
 				for _, signal := range p.Signals {
