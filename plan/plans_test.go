@@ -26,18 +26,8 @@ var (
 	to      = sample.To
 	endOf   = sample.End
 	numbers = sample.Numbers
+	example = sample.Example
 )
-
-// example answers the chapter's plan.
-func example() api.Plan {
-	return api.Plan{
-		Version: 2, Parent: 1,
-		Sections: []api.Section{bare(1, to(2, 0), nothing), pointed(2, 5, to(1, 0), to(3, 0), to(3, 1)), bare(3, to(2, 1), to(2, 2))},
-		Points:   []api.Point{{Id: 5, Section: 2}},
-		Signals:  []api.Signal{{Id: 4, Section: 1, End: 0}},
-		Routes:   []api.Route{{Id: 8, Entry: 4, Path: []int{2, 3}, Timer: 3}},
-	}
-}
 
 // station answers a plan with two tracks between two points whose numbers fall, signals, and routes with and without exits, overlaps and flanks.
 func station() api.Plan {
@@ -65,34 +55,9 @@ type sizes struct{ sections, points, signals, routes, path, over, flanks int }
 // most are as many as there may be.
 var most = sizes{16, 6, 10, 16, 6, 2, 3}
 
-// big answers a plan of so many of each, numbered up to 99: a row of sections, of which the first ones have points (their numbers fall), and the last ones signals.
+// big answers a plan of so many of each.
 func big(n sizes) api.Plan {
-	p := api.Plan{Version: api.MaxVersion, Parent: api.MaxVersion - 1}
-	first := 100 - n.sections
-	for i := range n.sections {
-		s := bare(first+i, to(first+i-1, 1), to(first+i+1, 0))
-		if i < n.points {
-			s = pointed(first+i, 99-i, s.Ends[0], s.Ends[1], nothing)
-			p.Points = slices.Insert(p.Points, 0, api.Point{Id: 99 - i, Section: s.Id})
-		}
-		p.Sections = append(p.Sections, s)
-	}
-	p.Sections[0].Ends[0], p.Sections[n.sections-1].Ends[1] = nothing, nothing
-	for id := 100 - n.signals; id < 100; id++ {
-		p.Signals = append(p.Signals, api.Signal{Id: id, Section: id, End: 1})
-	}
-	for id := 100 - n.routes; id < 100; id++ {
-		r := api.Route{Id: id, Entry: 99, Exit: 98, Timer: 9}
-		for i := range n.path + n.over {
-			r.Path = append(r.Path, first+i)
-		}
-		r.Path, r.Over = r.Path[:n.path:n.path], slices.Clone(r.Path[n.path:])
-		for _, x := range p.Points[:n.flanks] {
-			r.Flanks = append(r.Flanks, api.Flank{Point: x.Id, Lie: 2})
-		}
-		p.Routes = append(p.Routes, r)
-	}
-	return p
+	return sample.Big(n.sections, n.points, n.signals, n.routes, n.path, n.over, n.flanks)
 }
 
 // with answers p, changed.

@@ -22,6 +22,18 @@ func To(id, end int) api.Join {
 	return api.Join{To: id, End: end}
 }
 
+// Example answers the plan of the document's first examples: 2, whose legs are joined by 3.
+func Example() api.Plan {
+	none := api.Join{}
+	return api.Plan{
+		Version: 2, Parent: 1,
+		Sections: []api.Section{Bare(1, To(2, 0), none), Pointed(2, 5, To(1, 0), To(3, 0), To(3, 1)), Bare(3, To(2, 1), To(2, 2))},
+		Points:   []api.Point{{Id: 5, Section: 2}},
+		Signals:  []api.Signal{{Id: 4, Section: 1, End: 0}},
+		Routes:   []api.Route{{Id: 8, Entry: 4, Path: []int{2, 3}, Timer: 3}},
+	}
+}
+
 // Station answers the station of the document's examples: a loop, 3 and 4, between the legs of 2 and 5.
 func Station() api.Plan {
 	none := api.Join{}
@@ -57,6 +69,42 @@ func Yard() api.Plan {
 			{Id: 7, Section: 7, End: 1}, {Id: 8, Section: 8, End: 0}, {Id: 9, Section: 7, End: 0}, {Id: 10, Section: 10, End: 2}, {Id: 12, Section: 12, End: 2},
 		},
 	}
+}
+
+// Full answers a plan with as many of each kind as there may be, and the greatest version.
+func Full() api.Plan {
+	return Big(api.MaxSections, api.MaxPoints, api.MaxSignals, api.MaxRoutes, api.MaxPath, api.MaxOver, api.MaxFlanks)
+}
+
+// Big answers a plan of so many of each (the last three: of each route), numbered up to 99: a row of sections, at least one, of which the first ones have points (their numbers fall), and the last ones signals. There are as many points as flanks, or more. Within the limits it may be, if there are no routes, or two signals and a path.
+func Big(sections, points, signals, routes, path, over, flanks int) api.Plan {
+	p := api.Plan{Version: api.MaxVersion, Parent: api.MaxVersion - 1}
+	none := api.Join{}
+	first := api.MaxId + 1 - sections
+	for i := range sections {
+		s := Bare(first+i, To(first+i-1, 1), To(first+i+1, 0))
+		if i < points {
+			s = Pointed(first+i, api.MaxId-i, s.Ends[0], s.Ends[1], none)
+			p.Points = slices.Insert(p.Points, 0, api.Point{Id: api.MaxId - i, Section: s.Id})
+		}
+		p.Sections = append(p.Sections, s)
+	}
+	p.Sections[0].Ends[0], p.Sections[sections-1].Ends[1] = none, none
+	for id := api.MaxId + 1 - signals; id <= api.MaxId; id++ {
+		p.Signals = append(p.Signals, api.Signal{Id: id, Section: id, End: 1})
+	}
+	for id := api.MaxId + 1 - routes; id <= api.MaxId; id++ {
+		r := api.Route{Id: id, Entry: api.MaxId, Exit: api.MaxId - 1, Timer: api.MaxTimer}
+		for i := range path + over {
+			r.Path = append(r.Path, first+i)
+		}
+		r.Path, r.Over = r.Path[:path:path], slices.Clone(r.Path[path:])
+		for _, x := range p.Points[:flanks] {
+			r.Flanks = append(r.Flanks, api.Flank{Point: x.Id, Lie: api.Reverse})
+		}
+		p.Routes = append(p.Routes, r)
+	}
+	return p
 }
 
 // Having answers p with those routes alone, numbered from 1 on.

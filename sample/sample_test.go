@@ -11,9 +11,26 @@ import (
 
 // The plans that are told may be.
 func TestTold(t *testing.T) {
-	for i, p := range []api.Plan{sample.Station(), sample.Yard(), sample.Having(sample.Station(), sample.Station().Routes[2], sample.Station().Routes[0]), sample.Moved(sample.Station(), map[int]api.Join{1: sample.To(1, 0)})} {
+	for i, p := range []api.Plan{sample.Example(), sample.Station(), sample.Yard(), sample.Full(), sample.Big(3, 1, 2, 1, 1, 0, 1), sample.Big(1, 0, 0, 0, 0, 0, 0), sample.Having(sample.Station(), sample.Station().Routes[2], sample.Station().Routes[0]), sample.Moved(sample.Station(), map[int]api.Join{1: sample.To(1, 0)})} {
 		if e := plan.Check(p); e != api.OK {
 			t.Errorf("plan %d may not be: %d", i, int(e))
+		}
+	}
+}
+
+// The greatest plan has as many of each kind as there may be; with one more of any it may not be.
+func TestFull(t *testing.T) {
+	most := [7]int{api.MaxSections, api.MaxPoints, api.MaxSignals, api.MaxRoutes, api.MaxPath, api.MaxOver, api.MaxFlanks}
+	p := sample.Full()
+	r := p.Routes[len(p.Routes)-1]
+	if got := [7]int{len(p.Sections), len(p.Points), len(p.Signals), len(p.Routes), len(r.Path), len(r.Over), len(r.Flanks)}; got != most || p.Version != api.MaxVersion {
+		t.Errorf("%v of each, version %d; want %v", got, p.Version, most)
+	}
+	for i := range most {
+		n := most
+		n[i]++
+		if e := plan.Check(sample.Big(n[0], n[1], n[2], n[3], n[4], n[5], n[6])); e != api.ErrBad {
+			t.Errorf("%v of each: %d", n, int(e))
 		}
 	}
 }

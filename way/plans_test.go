@@ -35,13 +35,10 @@ func ask(point, lie, at int) api.Ask {
 
 // example answers the chapter's plan.
 func example() api.Plan {
-	return api.Plan{
-		Version: 2, Parent: 1,
-		Sections: []api.Section{bare(1, to(2, 0), nothing), pointed(2, 5, to(1, 0), to(3, 0), to(3, 1)), bare(3, to(2, 1), to(2, 2))},
-		Points:   []api.Point{{Id: 5, Section: 2}},
-		Signals:  []api.Signal{{Id: 4, Section: 1, End: 0}, {Id: 6, Section: 3, End: 1}},
-		Routes:   []api.Route{{Id: 8, Entry: 4, Path: []int{2, 3}, Timer: 3}, {Id: 9, Entry: 4, Exit: 6, Path: []int{2, 3}, Timer: 1}},
-	}
+	p := sample.Example()
+	p.Signals = append(p.Signals, api.Signal{Id: 6, Section: 3, End: 1})
+	p.Routes = append(p.Routes, api.Route{Id: 9, Entry: 4, Exit: 6, Path: []int{2, 3}, Timer: 1})
+	return p
 }
 
 // fork answers a plan without routes: both legs of 2 lead into 3, the first one to a leg of it, the other one to its toe; a leg of 3 leads on to 4, and the legs of 5 to each other.
