@@ -86,7 +86,7 @@ func (c *counts) asked(t *testing.T, name string, a, b api.Plan) {
 // P13.1, P13.3: the yard, changed in one thing: just that is told, all else is the same; the other way round too.
 func TestTurns(t *testing.T) {
 	for name, x := range turns() {
-		a, b := yard(), yard()
+		a, b := sample.Busy(), sample.Busy()
 		x.change(&b)
 		if e := plan.Check(b); e != api.OK {
 			t.Errorf("%s: may not be: %d: %v", name, int(e), b)
@@ -106,9 +106,9 @@ func TestTold(t *testing.T) {
 	least := api.Plan{Version: 1}
 	all := slices.Concat(is(1, 0, 1, 2), is(2, 0, 1), is(3, 0, 1), is(4, 0, 1))
 	answers(t, "nothing", least, api.Plan{Version: 7, Parent: 3}, nil)
-	answers(t, "small", small(), small(), all)
-	answers(t, "small, added", least, small(), slices.Concat(is(1, 2, 1, 2), is(2, 2, 1), is(3, 2, 1), is(4, 2, 1)))
-	answers(t, "small, removed", small(), least, slices.Concat(is(1, 3, 1, 2), is(2, 3, 1), is(3, 3, 1), is(4, 3, 1)))
+	answers(t, "small", sample.Small(), sample.Small(), all)
+	answers(t, "small, added", least, sample.Small(), slices.Concat(is(1, 2, 1, 2), is(2, 2, 1), is(3, 2, 1), is(4, 2, 1)))
+	answers(t, "small, removed", sample.Small(), least, slices.Concat(is(1, 3, 1, 2), is(2, 3, 1), is(3, 3, 1), is(4, 3, 1)))
 	for name, x := range map[string]struct {
 		change func(p *api.Plan)
 		want   []api.Diff
@@ -126,10 +126,10 @@ func TestTold(t *testing.T) {
 		"no route":            {func(p *api.Plan) { p.Routes = nil }, slices.Concat(is(1, 0, 1, 2), is(2, 0, 1), is(3, 0, 1), is(4, 3, 1))},
 		"no signal":           {func(p *api.Plan) { p.Routes, p.Signals = nil, nil }, slices.Concat(is(1, 0, 1, 2), is(2, 0, 1), is(3, 3, 1), is(4, 3, 1))},
 	} {
-		b := small()
+		b := sample.Small()
 		x.change(&b)
-		answers(t, name, small(), b, x.want)
-		answers(t, name+", back", b, small(), back(x.want))
+		answers(t, name, sample.Small(), b, x.want)
+		answers(t, name+", back", b, sample.Small(), back(x.want))
 	}
 }
 
@@ -168,9 +168,9 @@ func TestDrifted(t *testing.T) {
 	r := rand.New(rand.NewSource(131))
 	for i := range 150 {
 		a := sample.Grown(r.Intn)
-		b := drifted(a, r)
+		b := sample.Drifted(a, r.Intn)
 		c.asked(t, fmt.Sprint("drifted ", i), a, b)
-		c.asked(t, fmt.Sprint("drifted ", i, ", again"), b, drifted(b, r))
+		c.asked(t, fmt.Sprint("drifted ", i, ", again"), b, sample.Drifted(b, r.Intn))
 	}
 	if slices.Min(c.is[:]) < 200 || c.bad[0] != 0 {
 		t.Errorf("but %v", c)
@@ -224,7 +224,7 @@ func TestGreatest(t *testing.T) {
 
 // P13.1: one number in several kinds is as many elements; what is asked of the one tells nothing of the other ones.
 func TestOneNumber(t *testing.T) {
-	a, b := yard(), yard()
+	a, b := sample.Busy(), sample.Busy()
 	b.Routes = b.Routes[:2]
 	b.Sections[9].Ends[1], b.Sections[11].Ends[1] = sample.To(12, 1), sample.To(10, 1)
 	b.Signals = slices.Delete(b.Signals, 8, 9)
@@ -240,11 +240,11 @@ func TestOneNumber(t *testing.T) {
 
 // Both: a plan that may not be, as the first one, as the second one and as both, whatever else is wrong.
 func TestOdd(t *testing.T) {
-	for name, x := range odd() {
+	for name, x := range sample.Odd() {
 		if e := plan.Check(x); e != api.ErrBad {
 			t.Errorf("%s: may be: %d", name, int(e))
 		}
-		for _, p := range []api.Plan{yard(), {Version: 1}, sample.Full()} {
+		for _, p := range []api.Plan{sample.Busy(), {Version: 1}, sample.Full()} {
 			refused(t, name+" first", x, p)
 			refused(t, name+" second", p, x)
 		}
@@ -256,12 +256,12 @@ func TestOdd(t *testing.T) {
 
 // One: of two errors the one that is looked for first is told.
 func TestTwoErrors(t *testing.T) {
-	a, bad := yard(), api.Plan{}
+	a, bad := sample.Busy(), api.Plan{}
 	for kind := range 256 {
 		for _, id := range append(slices.Clone(far), 1, 10, 50, 77, 99) {
 			kind := uint8(kind)
 			if kind < 1 || kind > 4 {
-				one(t, "no kind", a, another(), kind, id, 0, api.ErrArg)
+				one(t, "no kind", a, sample.Another(), kind, id, 0, api.ErrArg)
 				one(t, "no kind, no plan", a, bad, kind, id, 0, api.ErrBad)
 				one(t, "no plan, no kind", bad, a, kind, id, 0, api.ErrBad)
 			}
@@ -269,7 +269,7 @@ func TestTwoErrors(t *testing.T) {
 	}
 	for _, kind := range kinds {
 		for _, id := range append(slices.Clone(far), 77) {
-			one(t, "none", a, another(), kind, id, 0, api.ErrNone)
+			one(t, "none", a, sample.Another(), kind, id, 0, api.ErrNone)
 			one(t, "none, no plan", a, bad, kind, id, 0, api.ErrBad)
 			one(t, "no plan, none", bad, a, kind, id, 0, api.ErrBad)
 		}
@@ -300,11 +300,11 @@ func TestLists(t *testing.T) {
 // P13.2: what is handed in is only read, its spare room too, also where two plans stand in one memory.
 func TestOnlyRead(t *testing.T) {
 	list := some()
-	for name, p := range odd() {
+	for name, p := range sample.Odd() {
 		list["odd: "+name] = p
 	}
 	for name, x := range turns() {
-		p := yard()
+		p := sample.Busy()
 		x.change(&p)
 		list["turn: "+name] = p
 	}
@@ -317,7 +317,7 @@ func TestOnlyRead(t *testing.T) {
 		}
 	}
 	for name, p := range list {
-		a, b := sample.Spare(p), sample.Spare(yard())
+		a, b := sample.Spare(p), sample.Spare(sample.Busy())
 		was, other := sample.Whole(a), sample.Whole(b)
 		calls(a, b)
 		calls(b, a)
@@ -334,7 +334,7 @@ func TestOnlyRead(t *testing.T) {
 
 // P13.1, P13.2: two plans in one memory, lists of the one being parts of the other one's.
 func TestOneMemory(t *testing.T) {
-	a := yard()
+	a := sample.Busy()
 	b := a
 	b.Routes = slices.Clone(a.Routes)
 	b.Routes[0].Path = a.Routes[0].Path[:1]
@@ -349,7 +349,7 @@ func TestOneMemory(t *testing.T) {
 // P13.2: what is answered is new memory, each time, and hangs on the plans no longer.
 func TestApart(t *testing.T) {
 	for name, p := range some() {
-		a, b := plan.Twin(p), yard()
+		a, b := plan.Twin(p), sample.Busy()
 		want := words(a, b)
 		one, _ := diff.Of(a, b)
 		other, _ := diff.Of(a, b)
@@ -372,10 +372,10 @@ func TestApart(t *testing.T) {
 // R2: asked again it is the same, whatever was asked between.
 func TestAgain(t *testing.T) {
 	for name, p := range some() {
-		want := words(p, yard())
+		want := words(p, sample.Busy())
 		for i := range 20 {
-			of(t, fmt.Sprint(name, ", time ", i), p, yard(), want, api.OK)
-			diff.Of(yard(), p)
+			of(t, fmt.Sprint(name, ", time ", i), p, sample.Busy(), want, api.OK)
+			diff.Of(sample.Busy(), p)
 			diff.Of(p, api.Plan{})
 			diff.One(sample.Full(), p, 4, 99)
 		}
@@ -411,7 +411,7 @@ func TestNothingBecame(t *testing.T) {
 	for range 400 {
 		a := sample.Grown(r.Intn)
 		b := plan.Twin(a)
-		drift(&b, r)
+		sample.Drift(&b, r.Intn)
 		if plan.Check(b) == api.OK {
 			pairs = append(pairs, [2]api.Plan{a, b})
 		}
@@ -441,7 +441,7 @@ func TestNothingBecame(t *testing.T) {
 
 // The chapter's examples.
 func TestExamples(t *testing.T) {
-	p, q := sample.Example(), another()
+	p, q := sample.Example(), sample.Another()
 	want := slices.Concat(is(1, 0, 1, 2, 3), is(2, 0, 5), is(3, 0, 4), is(3, 2, 7), is(4, 1, 8))
 	answers(t, "P, Q", p, q, want)
 	one(t, "P, Q", p, q, 3, 7, api.IsAdded, api.OK)

@@ -7,7 +7,6 @@ import (
 	"slices"
 
 	"leverframe/api"
-	"leverframe/plan"
 	"leverframe/sample"
 )
 
@@ -76,37 +75,6 @@ func back(l []api.Diff) []api.Diff {
 	return l
 }
 
-// small answers a plan with one element of each kind, and a section more; all but that have the number 1.
-func small() api.Plan {
-	return api.Plan{
-		Version:  1,
-		Sections: []api.Section{sample.Bare(1, sample.To(2, 0), api.Join{}), sample.Pointed(2, 1, sample.To(1, 0), api.Join{}, api.Join{})},
-		Points:   []api.Point{{Id: 1, Section: 2}},
-		Signals:  []api.Signal{{Id: 1, Section: 1, End: 0}},
-		Routes:   []api.Route{{Id: 1, Entry: 1, Path: []int{2}, Timer: 1}},
-	}
-}
-
-// another answers the plan of the chapter's examples that follows the document's first one.
-func another() api.Plan {
-	p := sample.Example()
-	p.Version, p.Parent = 3, 2
-	p.Routes[0].Timer = 4
-	p.Signals = append(p.Signals, api.Signal{Id: 7, Section: 3, End: 0})
-	return p
-}
-
-// yard answers the yard with three routes, of numbers 1, 2 and 10. The first one has something in each list.
-func yard() api.Plan {
-	p := plan.Twin(sample.Having(sample.Yard(),
-		api.Route{Entry: 1, Exit: 3, Path: []int{2, 3}, Over: []int{5, 6}, Flanks: []api.Flank{{Point: 20, Lie: 1}, {Point: 40, Lie: 2}}, Timer: 2},
-		api.Route{Entry: 6, Exit: 7, Path: []int{7}, Timer: 1},
-		api.Route{Entry: 7, Path: []int{8, 9, 10}, Timer: 9},
-	))
-	p.Routes[2].Id = 10
-	return p
-}
-
 // turn is a change of the yard, and all that does not stay the same by it.
 type turn struct {
 	change func(p *api.Plan)
@@ -165,7 +133,7 @@ func routeTurns() map[string]func(r *api.Route) {
 		"no flank":                       func(r *api.Route) { r.Flanks = nil },
 		"no exit":                        func(r *api.Route) { r.Exit, r.Over = 0, nil },
 		"all but its number":             func(r *api.Route) { *r = api.Route{Id: 1, Entry: 12, Path: []int{11, 10}, Timer: 8} },
-		"all of another one's":           func(r *api.Route) { *r = yard().Routes[1]; r.Id = 1 },
+		"all of another one's":           func(r *api.Route) { *r = sample.Busy().Routes[1]; r.Id = 1 },
 	}
 }
 
@@ -263,99 +231,7 @@ func otherTurns() map[string]turn {
 	}
 }
 
-// odd answers plans that may not be, each by a name.
-func odd() map[string]api.Plan {
-	list := map[string]api.Plan{
-		"no plan": {}, "version 1 of 1": {Version: 1, Parent: 1}, "version beyond": {Version: 1 << 31}, "below nought": {Version: -1, Parent: -2},
-		"17 sections": sample.Big(17, 6, 10, 16, 6, 2, 3), "7 points": sample.Big(16, 7, 10, 16, 6, 2, 3), "11 signals": sample.Big(16, 6, 11, 16, 6, 2, 3), "17 routes": sample.Big(16, 6, 10, 17, 6, 2, 3),
-		"7 in the path": sample.Big(16, 6, 10, 16, 7, 2, 3), "3 in the overlap": sample.Big(16, 6, 10, 16, 6, 3, 3), "4 flanks": sample.Big(16, 6, 10, 16, 6, 2, 4), "an empty path": sample.Big(16, 6, 10, 16, 0, 2, 3),
-	}
-	for name, change := range map[string]func(p *api.Plan){
-		"version 0":                  func(p *api.Plan) { p.Version, p.Parent = 0, -1 },
-		"sections that fall":         func(p *api.Plan) { p.Sections[0], p.Sections[1] = p.Sections[1], p.Sections[0] },
-		"a section joined one way":   func(p *api.Plan) { p.Sections[5].Ends[1] = api.Join{} },
-		"a section without ends":     func(p *api.Plan) { p.Sections[0].Ends = nil },
-		"section 0":                  func(p *api.Plan) { p.Sections = slices.Insert(p.Sections, 0, sample.Bare(0, api.Join{}, api.Join{})) },
-		"section 100":                func(p *api.Plan) { p.Sections = append(p.Sections, sample.Bare(100, api.Join{}, api.Join{})) },
-		"no section":                 func(p *api.Plan) { p.Sections = nil },
-		"a point is missing":         func(p *api.Plan) { p.Points = p.Points[:5] },
-		"a point twice":              func(p *api.Plan) { p.Points[1] = p.Points[0] },
-		"a point elsewhere":          func(p *api.Plan) { p.Points[0].Section = 1 },
-		"a signal twice":             func(p *api.Plan) { p.Signals[9] = p.Signals[8] },
-		"two signals at one end":     func(p *api.Plan) { p.Signals[9].Section, p.Signals[9].End = 10, 2 },
-		"a signal at an end beyond":  func(p *api.Plan) { p.Signals[0].End = 2 },
-		"no signal":                  func(p *api.Plan) { p.Signals = nil },
-		"routes that fall":           func(p *api.Plan) { p.Routes[0], p.Routes[1] = p.Routes[1], p.Routes[0] },
-		"two routes of one number":   func(p *api.Plan) { p.Routes[1].Id = 1 },
-		"route 100":                  func(p *api.Plan) { p.Routes[2].Id = 100 },
-		"a path's section nowhere":   func(p *api.Plan) { p.Routes[2].Path[2] = 77 },
-		"a flank of nothing":         func(p *api.Plan) { p.Routes[0].Flanks[1].Point = 41 },
-		"the last one's timer is 10": func(p *api.Plan) { p.Routes[2].Timer = 10 },
-	} {
-		p := yard()
-		change(&p)
-		list[name] = p
-	}
-	return list
-}
-
 // some answers plans that may be, told and made by chance, each by a name.
 func some() map[string]api.Plan {
-	list := map[string]api.Plan{
-		"least": {Version: 1}, "empty": {Version: 2, Parent: 1, Sections: []api.Section{}, Points: []api.Point{}, Signals: []api.Signal{}, Routes: []api.Route{}},
-		"small": small(), "example": sample.Example(), "another": another(), "station": sample.Station(), "yard": yard(), "no route": sample.Yard(),
-		"greatest": sample.Full(), "one of each": sample.Big(3, 1, 2, 1, 1, 0, 1), "no signal": sample.Big(16, 6, 0, 0, 0, 0, 0), "no point": sample.Big(16, 0, 10, 16, 6, 2, 0),
-		"fewer": sample.Big(15, 5, 9, 15, 5, 1, 2), "no overlap": sample.Big(16, 6, 10, 16, 6, 0, 3), "no flank": sample.Big(16, 6, 10, 16, 6, 2, 0), "one section": sample.Big(1, 0, 0, 0, 0, 0, 0),
-	}
-	r := rand.New(rand.NewSource(13))
-	for i := range 4 {
-		list[fmt.Sprint("grown ", i)] = sample.Grown(r.Intn)
-	}
-	return list
-}
-
-// drifted answers p, changed by chance some times, so that it still may be; much of it stays as it was.
-func drifted(p api.Plan, r *rand.Rand) api.Plan {
-	for range 1 + r.Intn(20) {
-		q := plan.Twin(p)
-		drift(&q, r)
-		if plan.Check(q) == api.OK {
-			p = q
-		}
-	}
-	return p
-}
-
-// drift changes one thing of p by chance.
-func drift(p *api.Plan, r *rand.Rand) {
-	switch r.Intn(8) {
-	case 0: // two ends led to each other, and no more
-		a := sample.To(p.Sections[r.Intn(len(p.Sections))].Id, r.Intn(2))
-		if b := *sample.End(*p, a); b.To != 0 {
-			*sample.End(*p, a), *sample.End(*p, b) = api.Join{}, api.Join{}
-		}
-	case 1: // two ends lead to each other
-		a, b := sample.To(p.Sections[r.Intn(len(p.Sections))].Id, r.Intn(2)), sample.To(p.Sections[r.Intn(len(p.Sections))].Id, r.Intn(2))
-		sample.Tie(*p, a, b)
-	case 2: // a route less
-		if i := r.Intn(len(p.Routes) + 1); i < len(p.Routes) {
-			p.Routes = slices.Delete(p.Routes, i, i+1)
-		}
-	case 3: // a signal less
-		if i := r.Intn(len(p.Signals) + 1); i < len(p.Signals) {
-			p.Signals = slices.Delete(p.Signals, i, i+1)
-		}
-	case 4: // a route more, by another one's fields
-		if i := r.Intn(len(p.Routes) + 1); i < len(p.Routes) {
-			x := plan.Twin(*p).Routes[i]
-			x.Id++
-			p.Routes = slices.Insert(p.Routes, i+1, x)
-		}
-	case 5: // a section more
-		at := r.Intn(len(p.Sections)) + 1
-		p.Sections = slices.Insert(p.Sections, at, sample.Bare(p.Sections[at-1].Id+1, api.Join{}, api.Join{}))
-	default: // a number is another one
-		list := sample.Numbers(p)
-		*list[r.Intn(len(list))] = r.Intn(17)
-	}
+	return sample.Some(rand.New(rand.NewSource(13)).Intn)
 }

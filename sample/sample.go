@@ -34,6 +34,26 @@ func Example() api.Plan {
 	}
 }
 
+// Another answers the plan of the document's examples that follows the first one.
+func Another() api.Plan {
+	p := Example()
+	p.Version, p.Parent = 3, 2
+	p.Routes[0].Timer = 4
+	p.Signals = append(p.Signals, api.Signal{Id: 7, Section: 3, End: 0})
+	return p
+}
+
+// Small answers a plan with one element of each kind, and a section more; all but that have the number 1.
+func Small() api.Plan {
+	return api.Plan{
+		Version:  1,
+		Sections: []api.Section{Bare(1, To(2, 0), api.Join{}), Pointed(2, 1, To(1, 0), api.Join{}, api.Join{})},
+		Points:   []api.Point{{Id: 1, Section: 2}},
+		Signals:  []api.Signal{{Id: 1, Section: 1, End: 0}},
+		Routes:   []api.Route{{Id: 1, Entry: 1, Path: []int{2}, Timer: 1}},
+	}
+}
+
 // Station answers the station of the document's examples: a loop, 3 and 4, between the legs of 2 and 5.
 func Station() api.Plan {
 	none := api.Join{}
@@ -69,6 +89,17 @@ func Yard() api.Plan {
 			{Id: 7, Section: 7, End: 1}, {Id: 8, Section: 8, End: 0}, {Id: 9, Section: 7, End: 0}, {Id: 10, Section: 10, End: 2}, {Id: 12, Section: 12, End: 2},
 		},
 	}
+}
+
+// Busy answers the yard with three routes, of numbers 1, 2 and 10. The first one has something in each list.
+func Busy() api.Plan {
+	p := Having(Yard(),
+		api.Route{Entry: 1, Exit: 3, Path: []int{2, 3}, Over: []int{5, 6}, Flanks: []api.Flank{{Point: 20, Lie: 1}, {Point: 40, Lie: 2}}, Timer: 2},
+		api.Route{Entry: 6, Exit: 7, Path: []int{7}, Timer: 1},
+		api.Route{Entry: 7, Path: []int{8, 9, 10}, Timer: 9},
+	)
+	p.Routes[2].Id = 10
+	return p
 }
 
 // Full answers a plan with as many of each kind as there may be, and the greatest version.

@@ -11,7 +11,7 @@ import (
 
 // The plans that are told may be.
 func TestTold(t *testing.T) {
-	for i, p := range []api.Plan{sample.Example(), sample.Station(), sample.Yard(), sample.Full(), sample.Big(3, 1, 2, 1, 1, 0, 1), sample.Big(1, 0, 0, 0, 0, 0, 0), sample.Having(sample.Station(), sample.Station().Routes[2], sample.Station().Routes[0]), sample.Moved(sample.Station(), map[int]api.Join{1: sample.To(1, 0)})} {
+	for i, p := range []api.Plan{sample.Example(), sample.Another(), sample.Small(), sample.Station(), sample.Yard(), sample.Busy(), sample.Full(), sample.Big(3, 1, 2, 1, 1, 0, 1), sample.Big(1, 0, 0, 0, 0, 0, 0), sample.Having(sample.Station(), sample.Station().Routes[2], sample.Station().Routes[0]), sample.Moved(sample.Station(), map[int]api.Join{1: sample.To(1, 0)})} {
 		if e := plan.Check(p); e != api.OK {
 			t.Errorf("plan %d may not be: %d", i, int(e))
 		}
@@ -108,5 +108,47 @@ func TestChanged(t *testing.T) {
 	})
 	if calls != 2*len(sample.Numbers(&p)) || !plan.Same(p, was) {
 		t.Errorf("%d calls; then it is %v", calls, p)
+	}
+}
+
+// The plans that may be do, the odd ones do not, and there are some of both.
+func TestLists(t *testing.T) {
+	some, odd := sample.Some(rand.New(rand.NewSource(2)).Intn), sample.Odd()
+	for name, p := range some {
+		if e := plan.Check(p); e != api.OK {
+			t.Errorf("%s: may not be: %d: %v", name, int(e), p)
+		}
+	}
+	for name, p := range odd {
+		if e := plan.Check(p); e != api.ErrBad {
+			t.Errorf("%s: may be: %d: %v", name, int(e), p)
+		}
+	}
+	if len(some) < 20 || len(odd) < 30 {
+		t.Errorf("but %d that may be, and %d odd ones", len(some), len(odd))
+	}
+}
+
+// What drifts still may be, and is mostly another plan; the one that it was is as it was.
+func TestDrifted(t *testing.T) {
+	r := rand.New(rand.NewSource(3))
+	unlike, odd := 0, 0
+	for range 200 {
+		p := sample.Grown(r.Intn)
+		was := plan.Twin(p)
+		q := sample.Drifted(p, r.Intn)
+		if plan.Check(q) != api.OK || !plan.Same(p, was) {
+			t.Errorf("%v became %v; it was %v", p, q, was)
+		}
+		if !plan.Same(p, q) {
+			unlike++
+		}
+		sample.Drift(&q, r.Intn)
+		if plan.Check(q) != api.OK {
+			odd++
+		}
+	}
+	if unlike < 100 || odd < 20 {
+		t.Errorf("but %d are other ones, and %d may not be", unlike, odd)
 	}
 }
