@@ -1,4 +1,4 @@
-// Package sample has plans, told and made by chance, for the tests of the layers' packages. No layer calls it.
+// Package sample has plans, and states of plans, told and made by chance, for the tests of the layers' packages. No layer calls it.
 package sample
 
 import (
