@@ -12,6 +12,7 @@ import (
 	"leverframe/plan"
 	"leverframe/sample"
 	"leverframe/sound"
+	"leverframe/state"
 )
 
 // The plans that are told may be.
@@ -340,4 +341,45 @@ func TestStray(t *testing.T) {
 	}
 	empty := api.State{}
 	sample.Stray(api.Plan{Version: 1}, &empty, r.Intn)
+}
+
+// The states that are told may be, and have each phase, place and number left; those that are dead may not, though the plan may run.
+func TestStands(t *testing.T) {
+	r := rand.New(rand.NewSource(9))
+	list := sample.Sounds(r.Intn)
+	for _, name := range slices.Sorted(maps.Keys(list)) {
+		p := list[name]
+		alone := 1
+		for _, x := range p.Routes {
+			alone += 1 + len(x.Path) + 2*x.Timer
+		}
+		seen := map[string]int{}
+		for _, s := range sample.Alone(p) {
+			seen[fmt.Sprint(s)]++
+		}
+		if len(seen) != alone {
+			t.Errorf("%s: %d states; want %d", name, len(seen), alone)
+		}
+		for other, s := range sample.Lives(p, r.Intn) {
+			if e := state.Check(p, s); e != api.OK {
+				t.Errorf("%s, %s: %d: %v: %v", name, other, int(e), s, p)
+			}
+		}
+	}
+	for name, s := range sample.Together() {
+		locked := 0
+		for _, l := range s.Locks {
+			if l.Phase != api.Rest {
+				locked++
+			}
+		}
+		if _, ok := sample.Lives(sample.Rails(), r.Intn)[name]; !ok || locked < 2 {
+			t.Errorf("%s: %v, but %d: %v", name, ok, locked, s)
+		}
+	}
+	for name, s := range sample.Dead() {
+		if e := state.Check(sample.Rails(), s); e != api.ErrBad {
+			t.Errorf("%s: %d: %v", name, int(e), s)
+		}
+	}
 }
